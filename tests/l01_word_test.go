@@ -4,34 +4,42 @@ import (
 	"bytes"
 	"fmt"
 	"math"
+	"slices"
 	"strings"
 	"testing"
 
 	"loop.example/g00478/impl"
 )
 
-const spareByte = 0xa5
+const (
+	spareByte = 0xa5
+	spareRoom = 16
+)
 
-// roomy has spare room behind its length, so that a function that writes or reads there is seen.
+// roomyOf has spare room behind its length, so that a function that writes or reads there is seen.
+func roomyOf[T any](spare T, l ...T) []T {
+	whole := slices.Concat(l, slices.Repeat([]T{spare}, spareRoom))
+	return whole[: len(l) : len(l)+spareRoom]
+}
+
 func roomy(b ...byte) []byte {
-	whole := make([]byte, len(b)+16)
-	for i := copy(whole, b); i < len(whole); i++ {
-		whole[i] = spareByte
+	return roomyOf(byte(spareByte), b...)
+}
+
+func mustBeUntouchedOf[T comparable](t *testing.T, what string, spare T, l []T, was []T) {
+	t.Helper()
+	if !slices.Equal(l, was) {
+		t.Errorf("%s: the argument is %v now, was %v", what, l, was)
 	}
-	return whole[:len(b)]
+	room := l[len(l):cap(l)]
+	if slices.ContainsFunc(room, func(x T) bool { return x != spare }) {
+		t.Errorf("%s: the spare room is %v now", what, room)
+	}
 }
 
 func mustBeUntouched(t *testing.T, what string, b []byte, was ...byte) {
 	t.Helper()
-	if !bytes.Equal(b, was) {
-		t.Errorf("%s: the argument is %x now, was %x", what, b, was)
-	}
-	for _, x := range b[len(b):cap(b)] {
-		if x != spareByte {
-			t.Errorf("%s: the spare room is %x now", what, b[len(b):cap(b)])
-			return
-		}
-	}
+	mustBeUntouchedOf(t, what, spareByte, b, was)
 }
 
 // scribble writes over an answer and the room behind it.

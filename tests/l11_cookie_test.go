@@ -805,19 +805,53 @@ func cookieCalls() []cookieCall {
 	return l
 }
 
+// A watchedCall is what a chapter's functions are asked for, which tells what lists they answer, and what lists they ought to.
+type watchedCall[C any] interface {
+	withRoom() C
+	answers() [][]byte
+	told() [][]byte
+	scribbleOver()
+	mustBeUntouched(t *testing.T, what string, was C)
+}
+
+// mustWriteIntoNone: what it is asked for stays as it was, spare room and all, though each answer is written over.
+func mustWriteIntoNone[C watchedCall[C]](t *testing.T, was C) C {
+	t.Helper()
+	c := was.withRoom()
+	answers := c.answers()
+	c.mustBeUntouched(t, "asked", was)
+	for i, want := range was.told() {
+		if !bytes.Equal(answers[i], want) {
+			t.Errorf("the list %d of %v is %x, not %x", i, was, answers[i], want)
+		}
+		scribble(answers[i])
+		c.mustBeUntouched(t, "with an answer written over", was)
+	}
+	return c
+}
+
+// mustShareNone: an answer stays as it was when what was asked for and all other lists that are answered are written over.
+func mustShareNone[C watchedCall[C]](t *testing.T, was C) {
+	t.Helper()
+	for i, want := range was.told() {
+		c := was.withRoom()
+		answers := c.answers()
+		for k, a := range append(answers, c.answers()...) {
+			if k != i {
+				scribble(a)
+			}
+		}
+		c.scribbleOver()
+		if !bytes.Equal(answers[i], want) {
+			t.Errorf("the list %d of %v is %x now, not %x", i, was, answers[i], want)
+		}
+	}
+}
+
 func TestCookiesWriteIntoNoArgumentAndShareNone(t *testing.T) {
 	met := map[int]int{}
 	for _, was := range cookieCalls() {
-		c := was.withRoom()
-		answers := c.answers()
-		c.mustBeUntouched(t, "asked", was)
-		for i, want := range was.told() {
-			if !bytes.Equal(answers[i], want) {
-				t.Errorf("the list %d of %v is %x, not %x", i, was, answers[i], want)
-			}
-			scribble(answers[i])
-			c.mustBeUntouched(t, "with an answer written over", was)
-		}
+		c := mustWriteIntoNone(t, was)
 		mustJudgeAsTold(t, c.j, c.now, c.m.a, c.finish)
 		met[impl.Judge(c.j, c.now, c.m.a, c.finish)]++
 		c.mustBeUntouched(t, "judged", was)
@@ -829,22 +863,9 @@ func TestCookiesWriteIntoNoArgumentAndShareNone(t *testing.T) {
 	}
 }
 
-// An answer stays as it was when its arguments and all other lists that are answered are written over.
 func TestListsOfCookiesShareNone(t *testing.T) {
 	for _, was := range cookieCalls() {
-		for i, want := range was.told() {
-			c := was.withRoom()
-			answers := c.answers()
-			for k, a := range append(answers, c.answers()...) {
-				if k != i {
-					scribble(a)
-				}
-			}
-			c.scribbleOver()
-			if !bytes.Equal(answers[i], want) {
-				t.Errorf("the list %d of %v is %x now, not %x", i, was, answers[i], want)
-			}
-		}
+		mustShareNone(t, was)
 	}
 }
 
